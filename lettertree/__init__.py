@@ -1,0 +1,1 @@
+"""Lettertree: neighbours on a web who find its least tree by letters alone."""
