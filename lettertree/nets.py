@@ -20,11 +20,10 @@ class Net:
         self._wrote = [0 for _ in self._hands]
 
     def wake(self, hand):
-        """Let a hand wake by itself; one that is awake stays as it is."""
+        """Let a hand wake by itself; one that is awake or silent stays as it is."""
         self._check_hand(hand)
-        if hand == self._mute:
-            raise NoHand(f"hand {hand} is silent and never wakes")
-        self._post(hand, self._hands[hand].wake())
+        if hand != self._mute:
+            self._post(hand, self._hands[hand].wake())
 
     def under_way(self):
         """The ways (from, to) on which a letter is, rising."""

@@ -193,10 +193,32 @@ class Silent(unittest.TestCase):
 
     def test_one_hand_that_is_silent(self):
         net = Net(Web(1, []), 0)
-        with self.assertRaises(NoHand):
-            net.wake(0)
+        self.assertIsNone(net.wake(0))
         self.assertEqual(net.knows(0), (False, 0, None, [], [], False))
         self.assertEqual((net.under_way(), net.sent(), net.silent()), ([], 0, None))
+
+    def test_it_does_not_wake_when_it_is_to(self):
+        for mute in range(5):
+            woken = [hand for hand in range(5) if hand != mute]
+            for net in times(*CROSSED, mute, woken):
+                before = all_told(net, 5)
+                self.assertIsNone(net.wake(mute))
+                self.assertIsNone(net.wake(mute))
+                self.assertEqual(all_told(net, 5), before)
+            self.assertEqual(net.silent(), mute)
+
+    def test_it_does_not_wake_amid_a_story(self):
+        self.told(TRIANGLE, 2, """
+            wake 2:
+            wake 0: 0>2 joins 0
+            wake 2:
+            0>2 joins 0:
+            wake 2:
+            wake 1: 1>0 joins 0
+            hand 2: False 0 None [] [] False
+            1>0 joins 0:
+            hand 0: True 0 None [2] [] False
+        """)
 
     def test_nothing_is_ever_over(self):
         for mute in range(5):
@@ -246,13 +268,14 @@ class Refused(unittest.TestCase):
             self.refused(NoHand, net, 1, lambda: net.wake(number))
             self.refused(NoHand, net, 1, lambda: net.carry(0, number))
 
-    def test_the_silent_hand_that_is_to_wake(self):
-        for mute in range(5):
-            woken = [hand for hand in range(5) if hand != mute]
-            for net in times(*CROSSED, mute, woken):
-                self.refused(NoHand, net, 5, lambda: net.wake(mute))
+    def test_hands_that_there_are_not_behind_the_silent_one(self):
+        for mute in range(3):
+            net = Net(Web(*TRIANGLE), mute)
+            net.wake(mute)
+            for number in self.no_hands(3):
+                self.refused(NoHand, net, 3, lambda: net.wake(number))
 
-    def test_the_silent_hand_may_be_asked_for_otherwise(self):
+    def test_the_silent_hand_is_a_hand_that_there_is(self):
         net = Net(Web(*TRIANGLE), 1)
         self.assertEqual(net.knows(1), (False, 0, None, [], [], False))
         self.assertEqual((net.letters(1, 0), net.letters(0, 1)), ([], []))

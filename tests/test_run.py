@@ -81,6 +81,23 @@ class Told(unittest.TestCase):
         self.told((2, [(0, 1, 9)]), 1, [0], [], False, [], 1, 1)
         self.told(CHAIN, 3, [0], [], False, [0, 1], 10, 3)
 
+    def test_the_silent_hand_in_the_list_does_not_wake(self):
+        self.told((1, []), 0, [0], [], False, [], 0, None)
+        self.told((2, [(0, 1, 1)]), 0, [0], [], False, [], 0, None)
+        self.told((2, [(0, 1, 1)]), 0, [0, 1], [], False, [], 1, 0)
+        self.told((2, [(0, 1, 1)]), 0, [1, 0, 0], [3], False, [], 1, 0)
+        self.told(TRIANGLE, 1, [1, 0, 1], [], False, [1], 6, 1)
+        self.told(CHAIN, 3, [3, 3], [1, 2], False, [], 0, None)
+
+    def test_the_silent_hand_in_the_list_is_of_no_weight(self):
+        for hands, roads in large_webs():
+            web = Web(hands, roads)
+            for mute in range(hands):
+                woken = [hand for hand in range(0, hands, 2) if hand != mute]
+                without = run(web, mute, woken, [2, 7, 1, 8])
+                self.assertEqual(run(web, mute, [mute] + woken, [2, 7, 1, 8]), without)
+                self.assertEqual(run(web, mute, woken + [mute, mute], [2, 7, 1, 8]), without)
+
     def test_a_road_that_one_hand_alone_marks_is_not_told(self):
         self.told(CHAIN, 0, [1], [], False, [], 1, 0)
         self.told((3, [(0, 1, 1), (0, 2, 2)]), 1, [2], [], False, [], 2, 1)
@@ -155,10 +172,11 @@ class Refused(unittest.TestCase):
                 self.refused(mute, [0, 2, number])
                 self.refused(mute, [number, 0])
 
-    def test_the_silent_hand_that_is_to_wake(self):
-        for mute in range(3):
-            self.refused(mute, [mute])
-            self.refused(mute, [(mute + 1) % 3, mute])
+    def test_a_woken_hand_that_there_is_not_behind_the_silent_one(self):
+        for number in NUMBERS:
+            for mute in range(3):
+                self.refused(mute, [mute, number])
+                self.refused(mute, [number, mute])
 
 
 class NothingIsShared(unittest.TestCase):
